@@ -5,9 +5,6 @@ import "lanthorn/api"
 // cut is a number as an address: its lower 24 bits.
 func cut(addr uint32) uint32 { return addr & 0xffffff }
 
-// address is the place n of a bank.
-func address(bank uint8, n uint32) uint32 { return uint32(bank)<<16 | n&0xffff }
-
 // crossed tells whether two addresses are of unlike pages.
 func crossed(a, b uint32) bool { return a>>8 != b>>8 }
 
